@@ -1,0 +1,1 @@
+"""Sparehands: posts, people who can take them, and what stands when some drop out."""

@@ -1,0 +1,68 @@
+"""The section "The interface": names, arguments by position, and the files in which they are defined."""
+
+import ast
+import importlib
+import inspect
+import unittest
+from pathlib import Path
+
+import sparehands
+
+FUNCTIONS = {
+    "houses": {
+        "is_house": ["value"],
+        "is_roster": ["house", "gone", "value"],
+        "takers": ["house", "gone", "posts"],
+    },
+    "rosters": {
+        "find_roster": ["house", "gone"],
+        "find_short": ["house", "gone"],
+        "is_short": ["house", "gone", "value"],
+    },
+    "pairs": {
+        "possible_pairs": ["house", "gone"],
+        "sure_pairs": ["house", "gone"],
+        "find_with": ["house", "gone", "post", "person"],
+        "find_obstacle": ["house", "gone", "post", "person"],
+        "find_without": ["house", "gone", "post", "person"],
+        "find_need": ["house", "gone", "post", "person"],
+        "is_obstacle": ["house", "gone", "post", "person", "value"],
+        "is_need": ["house", "gone", "post", "person", "value"],
+    },
+}
+ERRORS = {
+    "InvalidPerson": ["person"],
+    "InvalidSkill": ["post", "person"],
+    "NoRoster": ["posts"],
+    "TooNarrow": ["posts"],
+    "NoPledge": ["book"],
+    "Pledged": ["book"],
+}
+
+
+def defined_in(module):
+    """The names of the functions and classes that a file itself defines."""
+    text = Path(sparehands.__file__).with_name(module + ".py").read_text(encoding="utf-8")
+    kinds = (ast.FunctionDef, ast.ClassDef)
+    return [node.name for node in ast.parse(text).body if isinstance(node, kinds)]
+
+
+class Interface(unittest.TestCase):
+    def test_functions(self):
+        for module, functions in FUNCTIONS.items():
+            for name, arguments in functions.items():
+                function = getattr(importlib.import_module("sparehands." + module), name)
+                parameters = inspect.signature(function).parameters.values()
+                self.assertEqual([parameter.name for parameter in parameters], arguments, name)
+                for parameter in parameters:
+                    self.assertIs(parameter.default, inspect.Parameter.empty, name)
+                    self.assertIs(parameter.kind, inspect.Parameter.POSITIONAL_OR_KEYWORD, name)
+                self.assertIn(name, defined_in(module))
+
+    def test_errors(self):
+        module = importlib.import_module("sparehands.errors")
+        for name, arguments in ERRORS.items():
+            parameters = list(inspect.signature(getattr(module, name).__init__).parameters)
+            self.assertEqual(parameters[1:], arguments, name)
+            self.assertIn(name, defined_in("errors"))
+        self.assertIn("SparehandsError", defined_in("errors"))
