@@ -47,3 +47,31 @@ def is_roster(house, gone, value):
 def takers(house, gone, posts):
     """Return, ascending, the people who are not gone and can take at least one of the posts."""
     return sorted({person for post in posts for person in house[1][post] if person not in gone})
+
+
+def is_there(house, gone, value):
+    """Return whether a value of any kind is a person of the house who is not gone."""
+    return is_integer(value) and 0 <= value < house[0] and value not in gone
+
+
+def people_there(house, gone):
+    """Return, ascending, the people who are not gone."""
+    return [person for person in range(house[0]) if person not in gone]
+
+
+def joined(some, others):
+    """Return, ascending, some people and others together; nobody is both."""
+    return tuple(sorted([*some, *others]))
+
+
+def parts_of(items):
+    """Return, in ascending order, all ascending tuples of some of the ascending items, () among them."""
+    parts = [()]
+    for item in items:
+        parts = parts + [(*part, item) for part in parts]
+    return sorted(parts)
+
+
+def sets_of_posts(house):
+    """Return, in ascending order, all ascending tuples of at least one post."""
+    return parts_of(list(range(len(house[1]))))[1:]

@@ -1,5 +1,6 @@
 """Stage 3: which people can stand at which posts, and which have to."""
 
+from sparehands.houses import joined
 from sparehands.rosters import find_roster, find_short, is_short
 
 
@@ -17,7 +18,7 @@ def sure_pairs(house, gone):
 
 def find_with(house, gone, post, person):
     """Return a roster that fits and has the pair, or None."""
-    others = find_roster(without_post(house, post), gone_too(gone, person))
+    others = find_roster(without_post(house, post), joined(gone, (person,)))
     if others is None:
         return None
     return others[:post] + (person,) + others[post:]
@@ -25,7 +26,7 @@ def find_with(house, gone, post, person):
 
 def find_obstacle(house, gone, post, person):
     """Return an obstacle to the pair, or None."""
-    short = find_short(without_post(house, post), gone_too(gone, person))
+    short = find_short(without_post(house, post), joined(gone, (person,)))
     if short is None:
         return None
     return tuple([other if other < post else other + 1 for other in short])
@@ -44,7 +45,7 @@ def find_need(house, gone, post, person):
 
 def is_obstacle(house, gone, post, person, value):
     """Return whether a value of any kind is an obstacle to the pair."""
-    return is_short(house, gone_too(gone, person), value) and post not in value
+    return is_short(house, joined(gone, (person,)), value) and post not in value
 
 
 def is_need(house, gone, post, person, value):
@@ -56,11 +57,6 @@ def all_pairs(house, gone):
     """Return, ascending, all pairs, possible or not."""
     posts = house[1]
     return [(post, person) for post in range(len(posts)) for person in posts[post] if person not in gone]
-
-
-def gone_too(gone, person):
-    """Return who is gone if the person is gone, too."""
-    return tuple(sorted([*gone, person]))
 
 
 def without_post(house, post):

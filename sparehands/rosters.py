@@ -21,6 +21,14 @@ def is_short(house, gone, value):
     return is_ascending(value, len(house[1])) and len(takers(house, gone, value)) < len(value)
 
 
+def all_rosters(house, gone):
+    """Return, in ascending order, all rosters that fit."""
+    rows = [()]
+    for post in house[1]:
+        rows = [(*row, person) for row in rows for person in post if person not in gone and person not in row]
+    return rows
+
+
 def fill_posts(house, gone):
     """Return a roster that fits and None, or None and a short set."""
     able = [[person for person in post if person not in gone] for post in house[1]]

@@ -3,45 +3,96 @@
 import unittest
 from copy import deepcopy
 
-from sparehands.houses import is_house, is_roster, takers
-from sparehands.pairs import (
-    find_need,
-    find_obstacle,
-    find_with,
-    find_without,
-    is_need,
-    is_obstacle,
-    possible_pairs,
-    sure_pairs,
+from sparehands import away, cheapest, houses, pairs, rosters, spares, tight
+from tests.trying import (
+    CHAIN,
+    PAIRS,
+    WIDE,
+    ascending_tuples,
+    large_cases,
+    lists_and_dicts,
+    odd_values,
+    pairs_by_words,
+    there_by_words,
 )
-from sparehands.rosters import find_roster, find_short, is_short
-from tests.trying import CHAIN, PAIRS, WIDE, large_cases, odd_values, pairs_by_words
 
 HOUSES = [(PAIRS, ()), (PAIRS, (0,)), (CHAIN, ()), (CHAIN, (2,)), (WIDE, (1, 3)), ((3, ()), (0,))]
+WITHOUT_A_ROSTER = [(PAIRS, (0, 1)), (CHAIN, (0, 2)), (WIDE, (0, 1, 3)), ((2, ((),)), ())]
 
 
-def cases_with_a_roster():
-    return HOUSES + [case for case in large_cases(120) if find_roster(*case) is not None]
+def all_cases():
+    return HOUSES + WITHOUT_A_ROSTER + list(large_cases(120))
+
+
+def costs_of(house):
+    return tuple(tuple((31 * k + 17 * p + 7 * k * p) % 100 for p in house[1][k]) for k in range(len(house[1])))
 
 
 def calls(house, gone):
-    """Calls of all functions that return something else than a bool."""
-    yield takers, (house, gone, tuple(range(len(house[1]))))
-    for function in (find_roster, find_short, possible_pairs, sure_pairs):
+    """Calls of all functions that return something else than a bool, as they may be made for the house."""
+    roster = rosters.find_roster(house, gone)
+    yield houses.takers, (house, gone, tuple(range(len(house[1]))))
+    for function in (rosters.find_roster, rosters.find_short, spares.least_spare):
+        yield function, (house, gone)
+    for function in (cheapest.least_roster_cost, cheapest.find_cheapest, cheapest.find_prices):
+        yield function, (house, gone, costs_of(house))
+    for f in (0, 1, 2, 9):
+        for function in (spares.find_plan, spares.find_narrow):
+            yield function, (house, gone, f)
+    if roster is not None:
+        yield cheapest.cost_of, (house, costs_of(house), roster)
+        yield from calls_with_a_roster(house, gone)
+
+
+def calls_with_a_roster(house, gone):
+    """Calls for stages in which some roster fits."""
+    for function in (pairs.possible_pairs, pairs.sure_pairs):
         yield function, (house, gone)
     for post, person in pairs_by_words(house, gone):
-        for function in (find_with, find_obstacle, find_without, find_need):
+        for function in (pairs.find_with, pairs.find_obstacle, pairs.find_without, pairs.find_need):
             yield function, (house, gone, post, person)
+    for function in (tight.tight_sets, tight.greatest_tight, tight.needed_people):
+        yield function, (house, gone)
+    for post in range(len(house[1])):
+        yield tight.least_tight, (house, gone, post)
+    there = tuple(there_by_words(house, gone))
+    for some in ((), there[:1], there[::2], there):
+        for function in (away.most_away, away.find_most_away, away.find_limit):
+            yield function, (house, gone, some)
+        for posts in ascending_tuples(range(len(house[1])))[:5]:
+            yield away.limit_of, (house, gone, some, posts)
+
+
+LISTS = (houses.takers, pairs.possible_pairs, pairs.sure_pairs, tight.tight_sets, tight.needed_people)
+TUPLES = (tight.greatest_tight, away.find_most_away, away.find_limit)
+INTEGERS = (cheapest.cost_of, away.most_away, away.limit_of)
+INTEGERS_OR_NONE = (cheapest.least_roster_cost, spares.least_spare)
+
+
+def kinds_told_by(function):
+    """The kinds of what a function may return."""
+    if function in LISTS:
+        return (list,)
+    if function in INTEGERS or function in INTEGERS_OR_NONE:
+        return (int,) if function in INTEGERS else (int, type(None))
+    return (tuple,) if function in TUPLES else (tuple, type(None))
 
 
 def checks(house, gone, value):
     """Calls of all functions that take any value."""
-    yield is_house, (value,)
-    yield is_roster, (house, gone, value)
-    yield is_short, (house, gone, value)
+    yield houses.is_house, (value,)
+    yield houses.is_roster, (house, gone, value)
+    yield rosters.is_short, (house, gone, value)
+    yield cheapest.is_cost_bound, (house, gone, costs_of(house), 0, value)
+    for f in (0, 1):
+        yield spares.is_plan, (house, gone, f, value)
+        yield spares.is_narrow, (house, gone, f, value)
     for post, person in pairs_by_words(house, gone)[:2]:
-        yield is_obstacle, (house, gone, post, person, value)
-        yield is_need, (house, gone, post, person, value)
+        yield pairs.is_obstacle, (house, gone, post, person, value)
+        yield pairs.is_need, (house, gone, post, person, value)
+    for person in there_by_words(house, gone)[:2]:
+        yield tight.is_reason, (house, gone, person, value)
+        yield away.is_limit, (house, gone, (person,), 1, value)
 
 
 def kinds(value):
@@ -53,9 +104,29 @@ def kinds(value):
     return (type(value), value)
 
 
+def spoil(value):
+    """Change all lists and dicts within a value."""
+    for part in lists_and_dicts(value):
+        if isinstance(part, list):
+            part.append("changed")
+            part.reverse()
+        else:
+            part.clear()
+            part["changed"] = None
+
+
+def leaves(value):
+    """All that is neither a tuple, a list nor a dict within a value."""
+    if isinstance(value, dict):
+        return [leaf for key in value for leaf in leaves(key) + leaves(value[key])]
+    if isinstance(value, (tuple, list)):
+        return [leaf for item in value for leaf in leaves(item)]
+    return [value]
+
+
 class Conventions(unittest.TestCase):
     def test_arguments_are_unchanged(self):
-        for house, gone in cases_with_a_roster():
+        for house, gone in all_cases():
             for function, arguments in calls(house, gone):
                 before = kinds(arguments)
                 function(*arguments)
@@ -76,33 +147,36 @@ class Conventions(unittest.TestCase):
                     self.assertIs(function(*arguments), function(*deepcopy(arguments)))
 
     def test_equal_arguments_get_equal_results(self):
-        for house, gone in cases_with_a_roster():
+        for house, gone in all_cases():
             for function, arguments in calls(house, gone):
                 self.assertEqual(kinds(function(*arguments)), kinds(function(*deepcopy(arguments))), function)
 
     def test_a_changed_result_does_not_change_the_next_one(self):
-        changed = 0
-        for house, gone in cases_with_a_roster():
+        changed = {}
+        for house, gone in all_cases():
             for function, arguments in calls(house, gone):
                 first = function(*arguments)
-                if isinstance(first, list):
-                    before = list(first)
-                    first.append("changed")
-                    first.reverse()
-                    again = function(*arguments)
-                    self.assertIsNot(again, first)
-                    self.assertEqual(again, before, function)
-                    changed += 1
-        self.assertGreater(changed, 100)
+                if lists_and_dicts(first):
+                    before = deepcopy(first)
+                    spoil(first)
+                    self.assertEqual(kinds(function(*arguments)), kinds(before), function)
+                    changed[function] = changed.get(function, 0) + 1
+        for function in LISTS:
+            self.assertGreater(changed[function], 20)
+
+    def test_no_two_lists_or_dicts_are_one(self):
+        for house, gone in all_cases():
+            for function, arguments in calls(house, gone):
+                told = lists_and_dicts(function(*arguments)) + lists_and_dicts(function(*arguments))
+                self.assertEqual(len({id(part) for part in told}), len(told), function)
 
     def test_kinds_of_results(self):
-        for house, gone in cases_with_a_roster():
+        for house, gone in all_cases():
             for function, arguments in calls(house, gone):
                 found = function(*arguments)
-                if function in (takers, possible_pairs, sure_pairs):
-                    self.assertIs(type(found), list)
-                elif found is not None:
-                    self.assertIs(type(found), tuple)
-                    self.assertTrue(all(type(item) is int for item in found))
-            for pair in possible_pairs(house, gone) + sure_pairs(house, gone):
-                self.assertEqual([type(pair), type(pair[0]), type(pair[1])], [tuple, int, int])
+                self.assertIn(type(found), kinds_told_by(function), function)
+                self.assertLessEqual({type(leaf) for leaf in leaves(found)}, {int, type(None)}, function)
+                if found is not None:
+                    self.assertFalse([leaf for leaf in leaves(found) if leaf is None], function)
+                for item in found if isinstance(found, list) else []:
+                    self.assertIn(type(item), (int, tuple), function)

@@ -29,6 +29,35 @@ FUNCTIONS = {
         "is_obstacle": ["house", "gone", "post", "person", "value"],
         "is_need": ["house", "gone", "post", "person", "value"],
     },
+    "tight": {
+        "tight_sets": ["house", "gone"],
+        "greatest_tight": ["house", "gone"],
+        "least_tight": ["house", "gone", "post"],
+        "needed_people": ["house", "gone"],
+        "is_reason": ["house", "gone", "person", "value"],
+    },
+    "cheapest": {
+        "cost_of": ["house", "costs", "roster"],
+        "least_roster_cost": ["house", "gone", "costs"],
+        "find_cheapest": ["house", "gone", "costs"],
+        "find_prices": ["house", "gone", "costs"],
+        "is_cost_bound": ["house", "gone", "costs", "number", "value"],
+    },
+    "away": {
+        "is_away": ["house", "gone", "some"],
+        "most_away": ["house", "gone", "some"],
+        "find_most_away": ["house", "gone", "some"],
+        "find_limit": ["house", "gone", "some"],
+        "limit_of": ["house", "gone", "some", "posts"],
+        "is_limit": ["house", "gone", "some", "number", "value"],
+    },
+    "spares": {
+        "least_spare": ["house", "gone"],
+        "find_plan": ["house", "gone", "f"],
+        "find_narrow": ["house", "gone", "f"],
+        "is_plan": ["house", "gone", "f", "value"],
+        "is_narrow": ["house", "gone", "f", "value"],
+    },
 }
 ERRORS = {
     "InvalidPerson": ["person"],

@@ -23,6 +23,10 @@ METHODS = set(
     "append clear copy count endswith extend find get index insert isalnum isalpha isdigit islower isspace isupper"
     " items join keys ljust lower lstrip partition pop remove replace reverse rfind rjust rpartition rsplit rstrip"
     " setdefault split splitlines startswith strip update upper values zfill bit_length add discard popleft".split())
+AT_ONCE = ("zip", "enumerate", "reversed", "range", "items", "keys", "values", "map")
+TAKE_AT_ONCE = ("list", "tuple", "dict", "sorted", "sum", "any", "all", "enumerate", "zip", "min", "max", "len")
+CHANGES = set(
+    "append clear extend insert pop remove reverse setdefault update add discard sort appendleft popleft".split())
 STATEMENTS = (
     ast.Assign, ast.AugAssign, ast.If, ast.While, ast.For, ast.Return, ast.Break, ast.Continue, ast.Pass, ast.Raise,
     ast.Assert, ast.Delete, ast.Try, ast.Expr, ast.FunctionDef, ast.ClassDef, ast.ImportFrom)
@@ -51,6 +55,11 @@ def names_given(tree):
             yield node.arg, node.lineno
         elif isinstance(node, ast.alias):
             yield node.asname or node.name, node.lineno
+
+
+def called(node):
+    """The name of the function or method that is called."""
+    return node.func.attr if isinstance(node.func, ast.Attribute) else getattr(node.func, "id", None)
 
 
 def own_methods():
@@ -205,6 +214,46 @@ class Code(unittest.TestCase):
                 if isinstance(sign, (ast.Is, ast.IsNot)):
                     self.assertTrue(isinstance(other, ast.Constant) and other.value in (None, True, False), where)
 
+    def test_keywords_of_builtins(self):
+        allowed = {
+            "sorted": {"key", "reverse"}, "min": {"key", "default"}, "max": {"key", "default"},
+            "sum": {"start"}, "enumerate": {"start"}, "zip": {"strict"}}
+        for node, where in self.each(ast.Call):
+            if isinstance(node.func, ast.Name) and node.func.id in BUILTINS:
+                self.assertLessEqual({word.arg for word in node.keywords}, allowed.get(node.func.id, set()), where)
+            elif isinstance(node.func, ast.Attribute) and node.func.attr in METHODS:
+                self.assertFalse(node.keywords, where)
+
+    def test_what_is_iterated_at_once(self):
+        for path, tree in trees():
+            up = {child: node for node in ast.walk(tree) for child in ast.iter_child_nodes(node)}
+            for node in ast.walk(tree):
+                if isinstance(node, ast.Call) and called(node) in AT_ONCE:
+                    above = up[node]
+                    iterated = isinstance(above, (ast.For, ast.comprehension)) and above.iter is node
+                    taken = isinstance(above, ast.Call) and called(above) in TAKE_AT_ONCE
+                    self.assertTrue(iterated or taken, f"{path.name}:{node.lineno}")
+
+    def test_nothing_is_changed_while_it_is_iterated(self):
+        for node, where in self.each(ast.For):
+            gone_over = {name.id for name in ast.walk(node.iter) if isinstance(name, ast.Name)}
+            for part in [inner for row in node.body for inner in ast.walk(row)]:
+                if isinstance(part, ast.Call) and isinstance(part.func, ast.Attribute) and part.func.attr in CHANGES:
+                    self.assertNotIn(ast.unparse(part.func.value), gone_over, where)
+                elif isinstance(part, ast.Subscript) and not isinstance(part.ctx, ast.Load):
+                    self.assertNotIn(ast.unparse(part.value), gone_over, where)
+                elif isinstance(part, ast.AugAssign):
+                    self.assertNotIn(ast.unparse(part.target), gone_over, where)
+
+    def test_names_of_methods_and_attributes(self):
+        methods = own_methods()
+        builtin = {name for kind in (str, int, list, dict, set, bytes, tuple) for name in dir(kind)}
+        for node, where in self.each(ast.Attribute):
+            if isinstance(node.ctx, ast.Store):
+                self.assertNotIn(node.attr, methods, where)
+                self.assertNotIn(node.attr, builtin, where)
+        self.assertFalse({name for name in methods if not name.startswith("__")} & builtin)
+
     def test_sets(self):
         for path, tree in trees():
             up = {child: node for node in ast.walk(tree) for child in ast.iter_child_nodes(node)}
@@ -215,7 +264,7 @@ class Code(unittest.TestCase):
 
     def set_may_stand(self, node, above):
         if isinstance(above, ast.Call) and isinstance(above.func, ast.Name):
-            return above.func.id in ("sorted", "len") and above.args == [node]
+            return above.func.id in ("sorted", "len") and above.args == [node] and not above.keywords
         if isinstance(above, ast.Compare):
             return isinstance(above.ops[0], (ast.In, ast.NotIn, ast.Eq, ast.NotEq))
         return isinstance(above, ast.Assign) and isinstance(above.targets[0], ast.Name)

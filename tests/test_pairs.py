@@ -19,23 +19,14 @@ from tests.trying import (
     PAIRS,
     WIDE,
     ascending_tuples,
+    fitting_cases,
     large_cases,
     need_by_words,
     obstacle_by_words,
     odd_values,
     pairs_by_words,
     roster_by_words,
-    rosters_by_trying,
-    small_cases,
 )
-
-
-def fitting_cases():
-    """Small houses with all rosters that fit, in each of which there is one."""
-    for house, gone in small_cases():
-        rosters = rosters_by_trying(house, gone)
-        if rosters:
-            yield house, gone, rosters
 
 
 class Pairs(unittest.TestCase):

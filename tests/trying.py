@@ -1,6 +1,6 @@
 """What the document says, word by word and by trying everything, to hold the program against."""
 
-from itertools import combinations, product
+from itertools import combinations, permutations, product
 from random import Random
 
 PAIRS = (3, ((0, 1), (1, 2)))
@@ -83,13 +83,49 @@ def roster_by_words(house, gone, value):
     )
 
 
+def there_by_words(house, gone):
+    """All people who are not gone, ascending."""
+    return [person for person in range(house[0]) if person not in gone]
+
+
 def rosters_by_trying(house, gone):
     """All rosters that fit, ascending."""
-    return [row for row in product(*house[1]) if roster_by_words(house, gone, row)]
+    posts = house[1]
+    rows = permutations(there_by_words(house, gone), len(posts))
+    return [row for row in rows if all(person in post for person, post in zip(row, posts))]
+
+
+def fitting_cases(*sizes):
+    """Small houses in which some roster fits, with all rosters that fit."""
+    for house, gone in cases(*sizes) if sizes else small_cases():
+        rosters = rosters_by_trying(house, gone)
+        if rosters:
+            yield house, gone, rosters
+
+
+def large_fitting_cases(many):
+    """Houses up to the limits in which some roster fits."""
+    for house, gone in large_cases(many):
+        if next((True for _ in rosters_by_steps(house, gone, ())), False):
+            yield house, gone
+
+
+def rosters_by_steps(house, gone, row):
+    """All rosters that fit and begin so, one after the other: in large houses there are many."""
+    if len(row) == len(house[1]):
+        yield row
+        return
+    for person in house[1][len(row)]:
+        if person not in gone and person not in row:
+            yield from rosters_by_steps(house, gone, row + (person,))
+
+
+def together(some, others):
+    return tuple(sorted(some + others))
 
 
 def takers_by_words(house, gone, posts):
-    there = [person for person in range(house[0]) if person not in gone]
+    there = there_by_words(house, gone)
     return [person for person in there if any(person in house[1][post] for post in posts)]
 
 
@@ -123,6 +159,152 @@ def need_by_words(house, gone, post, person, value):
 def pairs_by_words(house, gone):
     posts = house[1]
     return [(k, p) for k in range(len(posts)) for p in sorted(posts[k]) if p not in gone]
+
+
+def spare_by_words(house, gone, posts):
+    return len(takers_by_words(house, gone, posts)) - len(posts)
+
+
+def tight_by_words(house, gone, value):
+    return (
+        ascending_by_words(value, len(house[1]))
+        and len(value) >= 1
+        and spare_by_words(house, gone, value) == 0
+    )
+
+
+def cost_by_words(house, costs, roster):
+    return sum(costs[k][house[1][k].index(roster[k])] for k in range(len(roster)))
+
+
+def prices_by_words(house, value):
+    people, posts = house
+    return (
+        type(value) is tuple
+        and len(value) == 2
+        and all(type(part) is tuple and all(integer_by_words(price) for price in part) for part in value)
+        and [len(part) for part in value] == [len(posts), people]
+        and all(price >= 0 for price in value[1])
+    )
+
+
+def cost_bound_by_words(house, gone, costs, number, value):
+    if not prices_by_words(house, value):
+        return False
+    for k, p in pairs_by_words(house, gone):
+        if value[0][k] > costs[k][house[1][k].index(p)] + value[1][p]:
+            return False
+    return sum(value[0]) - sum(value[1][p] for p in there_by_words(house, gone)) >= number
+
+
+def away_sets_by_trying(house, gone):
+    """All away sets, ascending."""
+    rosters = [set(roster) for roster in rosters_by_trying(house, gone)]
+    parts = ascending_tuples(there_by_words(house, gone))
+    return sorted(part for part in parts if any(not roster & set(part) for roster in rosters))
+
+
+def limit_by_words(house, gone, some, posts):
+    others = [p for p in there_by_words(house, gone) if p not in some and any(p in house[1][k] for k in posts)]
+    return len(some) + len(others) - len(posts)
+
+
+def is_limit_by_words(house, gone, some, number, value):
+    return ascending_by_words(value, len(house[1])) and limit_by_words(house, gone, some, value) <= number
+
+
+def levels_by_words(house, gone, wishes):
+    there = there_by_words(house, gone)
+    return [level for level in range(999, 0, -1) if any(wishes[p] == level for p in there)]
+
+
+def height_by_words(house, gone, wishes, ceiling):
+    levels = levels_by_words(house, gone, wishes)
+    height = 0
+    for k in range(len(levels)):
+        some = tuple(p for p in there_by_words(house, gone) if wishes[p] >= levels[k])
+        below = levels[k + 1] if k + 1 < len(levels) else 0
+        height += (levels[k] - below) * limit_by_words(house, gone, some, ceiling[k])
+    return height
+
+
+def ceiling_by_words(house, gone, wishes, number, value):
+    return (
+        type(value) is tuple
+        and len(value) == len(levels_by_words(house, gone, wishes))
+        and all(ascending_by_words(posts, len(house[1])) for posts in value)
+        and height_by_words(house, gone, wishes, value) <= number
+    )
+
+
+def narrow_by_words(house, gone, f, value):
+    return (
+        ascending_by_words(value, len(house[1]))
+        and len(value) >= 1
+        and spare_by_words(house, gone, value) < f
+    )
+
+
+def plan_by_words(house, gone, f, value):
+    people, posts = house
+    if type(value) is not tuple or len(value) != len(posts):
+        return False
+    if not all(type(entry) is tuple and len(entry) == 2 for entry in value):
+        return False
+    for k in range(len(posts)):
+        roster, further = value[k]
+        if not roster_by_words(house, gone, roster) or not ascending_by_words(further, people) or len(further) != f:
+            return False
+        if any(p in gone or p in roster or p not in posts[k] for p in further):
+            return False
+    return True
+
+
+def stands_by_trying(house, gone, f):
+    """Whether some roster fits whoever of f people goes beside."""
+    if not house[1]:
+        return True
+    there = there_by_words(house, gone)
+    if len(there) < f:
+        return False
+    return all(rosters_by_trying(house, together(gone, some)) for some in combinations(there, f))
+
+
+def variants(value):
+    """Values that differ from the value in one part, among them ones of other kinds and with bools for integers."""
+    if type(value) is int:
+        yield from (value + 1, value - 1, -1 - value, 10 ** 59, None, str(value), (value,), [value])
+        if value in (0, 1):
+            yield bool(value)
+    elif value is None:
+        yield from (0, False, (), {}, "", (None,), {0: None})
+    elif type(value) is tuple:
+        yield from (None, (), list(value), value[:-1], value[1:], value[::-1], value * 2, (value,), dict(enumerate(value)))
+        yield from (value + (extra,) for extra in (0, None, (), {}, value[-1:]))
+        for k, part in enumerate(value):
+            yield from (value[:k] + (other,) + value[k + 1:] for other in variants(part))
+    elif type(value) is dict:
+        yield from (None, {}, (), list(value), list(value.items()), tuple(value.items()), {**value, "more": None})
+        yield dict(reversed(list(value.items())))
+        for key in value:
+            less = {other: value[other] for other in value if other != key}
+            yield less
+            yield from ({**less, other: value[key]} for other in variants(key) if can_be_key(other))
+            yield from ({**value, other: value[key]} for other in variants(key) if can_be_key(other))
+            yield from ({**value, key: other} for other in variants(value[key]))
+
+
+def can_be_key(value):
+    return not isinstance(value, (list, dict)) and (type(value) is not tuple or all(can_be_key(item) for item in value))
+
+
+def lists_and_dicts(value):
+    """All lists and dicts within a value, one item for each place at which one stands."""
+    if isinstance(value, dict):
+        return [value] + [found for key in value for found in lists_and_dicts(value[key])]
+    if isinstance(value, (tuple, list)):
+        return ([value] if isinstance(value, list) else []) + [found for item in value for found in lists_and_dicts(item)]
+    return []
 
 
 def nested(deep, value):
