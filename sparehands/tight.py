@@ -5,7 +5,7 @@ from sparehands.houses import is_ascending, sets_of_posts, takers
 
 def tight_sets(house, gone):
     """Return, in ascending order, all tight sets."""
-    return [posts for posts in sets_of_posts(house) if has_just_enough(house, gone, posts)]
+    return [posts for posts in sets_of_posts(house) if is_tight(house, gone, posts)]
 
 
 def greatest_tight(house, gone):
@@ -26,14 +26,10 @@ def needed_people(house, gone):
 
 def is_reason(house, gone, person, value):
     """Return whether a value of any kind is a tight set with the person among its takers."""
-    return is_tight(house, gone, value) and person in takers(house, gone, value)
+    # The empty tuple needs no test of its own: it has no takers.
+    return is_ascending(value, len(house[1])) and is_tight(house, gone, value) and person in takers(house, gone, value)
 
 
-def is_tight(house, gone, value):
-    """Return whether a value of any kind is a tight set."""
-    return is_ascending(value, len(house[1])) and value != () and has_just_enough(house, gone, value)
-
-
-def has_just_enough(house, gone, posts):
+def is_tight(house, gone, posts):
     """Return whether just as many people can take the posts together as there are of them."""
     return len(takers(house, gone, posts)) == len(posts)

@@ -3,7 +3,7 @@
 import unittest
 from copy import deepcopy
 
-from sparehands import away, cheapest, houses, pairs, rosters, spares, tight
+from sparehands import away, breaks, cheapest, fewmoves, games, houses, pairs, rosters, spares, tight, wishes
 from tests.trying import (
     CHAIN,
     PAIRS,
@@ -17,11 +17,21 @@ from tests.trying import (
 )
 
 HOUSES = [(PAIRS, ()), (PAIRS, (0,)), (CHAIN, ()), (CHAIN, (2,)), (WIDE, (1, 3)), ((3, ()), (0,))]
+OPEN = [(WIDE, ()), (WIDE, (2,)), ((5, ((0, 1, 2, 4), (1, 2, 3))), ()), ((6, ((0, 1, 2, 3, 4, 5), (2, 3, 4, 5))), (3,))]
 WITHOUT_A_ROSTER = [(PAIRS, (0, 1)), (CHAIN, (0, 2)), (WIDE, (0, 1, 3)), ((2, ((),)), ())]
 
 
 def all_cases():
-    return HOUSES + WITHOUT_A_ROSTER + list(large_cases(120))
+    return HOUSES + OPEN + WITHOUT_A_ROSTER + list(large_cases(120))
+
+
+def is_small(house):
+    """Whether it is a house for stages 12 and 13, and one with few rosters."""
+    return house[0] <= 6 and len(house[1]) <= 4
+
+
+def wishes_of(house):
+    return tuple((37 * p + 11) % 6 for p in range(house[0]))
 
 
 def costs_of(house):
@@ -39,9 +49,16 @@ def calls(house, gone):
     for f in (0, 1, 2, 9):
         for function in (spares.find_plan, spares.find_narrow):
             yield function, (house, gone, f)
+    if is_small(house):
+        for f, r in ((0, 0), (1, 1), (2, 1), (3, 2)):
+            yield fewmoves.ready_rosters, (house, f, r)
+            yield fewmoves.least_ready, (house, f)
     if roster is not None:
         yield cheapest.cost_of, (house, costs_of(house), roster)
         yield from calls_with_a_roster(house, gone)
+        yield from calls_of_wishes_and_breaks(house, gone)
+    if roster is not None and is_small(house):
+        yield from calls_of_games(house, gone, roster)
 
 
 def calls_with_a_roster(house, gone):
@@ -63,10 +80,35 @@ def calls_with_a_roster(house, gone):
             yield away.limit_of, (house, gone, some, posts)
 
 
-LISTS = (houses.takers, pairs.possible_pairs, pairs.sure_pairs, tight.tight_sets, tight.needed_people)
-TUPLES = (tight.greatest_tight, away.find_most_away, away.find_limit)
-INTEGERS = (cheapest.cost_of, away.most_away, away.limit_of)
-INTEGERS_OR_NONE = (cheapest.least_roster_cost, spares.least_spare)
+def calls_of_wishes_and_breaks(house, gone):
+    wished = wishes_of(house)
+    functions = (wishes.levels_of, wishes.heaviest_weight, wishes.find_heaviest, wishes.find_ceiling)
+    for function in functions:
+        yield function, (house, gone, wished)
+    yield wishes.height_of, (house, gone, wished, wishes.find_ceiling(house, gone, wished))
+    yield breaks.smallest_breaks, (house, gone)
+    yield breaks.least_break, (house, gone)
+    for person in there_by_words(house, gone)[:3]:
+        yield breaks.breaks_with, (house, gone, person)
+
+
+def calls_of_games(house, gone, roster):
+    for person in there_by_words(house, gone):
+        for r in (0, 1, 5):
+            yield games.answers_to, (house, gone, roster, person, r)
+    for f, r in ((0, 1), (1, 1), (2, 1), (2, 2), (3, 2), (3, 5)):
+        yield games.find_strategy, (house, gone, roster, f, r)
+        yield games.find_book, (house, gone, roster, f, r)
+        yield fewmoves.least_r, (house, gone, roster, f)
+
+
+LISTS = (
+    houses.takers, pairs.possible_pairs, pairs.sure_pairs, tight.tight_sets, tight.needed_people, wishes.levels_of,
+    breaks.smallest_breaks, breaks.breaks_with, games.answers_to, fewmoves.ready_rosters)
+TUPLES = (tight.greatest_tight, away.find_most_away, away.find_limit, wishes.find_heaviest, wishes.find_ceiling)
+INTEGERS = (cheapest.cost_of, away.most_away, away.limit_of, wishes.heaviest_weight, wishes.height_of)
+INTEGERS_OR_NONE = (
+    cheapest.least_roster_cost, spares.least_spare, breaks.least_break, fewmoves.least_r, fewmoves.least_ready)
 
 
 def kinds_told_by(function):
@@ -75,6 +117,8 @@ def kinds_told_by(function):
         return (list,)
     if function in INTEGERS or function in INTEGERS_OR_NONE:
         return (int,) if function in INTEGERS else (int, type(None))
+    if function == games.find_strategy:
+        return (dict, type(None))
     return (tuple,) if function in TUPLES else (tuple, type(None))
 
 
@@ -90,6 +134,10 @@ def checks(house, gone, value):
     for post, person in pairs_by_words(house, gone)[:2]:
         yield pairs.is_obstacle, (house, gone, post, person, value)
         yield pairs.is_need, (house, gone, post, person, value)
+    yield wishes.is_ceiling, (house, gone, wishes_of(house), 99, value)
+    for f, r in ((0, 0), (1, 2), (2, 1)):
+        yield games.is_strategy, (house, gone, rosters.find_roster(house, gone), f, r, value)
+        yield games.is_book, (house, gone, rosters.find_roster(house, gone), f, r, value)
     for person in there_by_words(house, gone)[:2]:
         yield tight.is_reason, (house, gone, person, value)
         yield away.is_limit, (house, gone, (person,), 1, value)
@@ -161,8 +209,8 @@ class Conventions(unittest.TestCase):
                     spoil(first)
                     self.assertEqual(kinds(function(*arguments)), kinds(before), function)
                     changed[function] = changed.get(function, 0) + 1
-        for function in LISTS:
-            self.assertGreater(changed[function], 20)
+        for function in (*LISTS, games.find_strategy, games.find_book):
+            self.assertGreater(changed[function], 20, function)
 
     def test_no_two_lists_or_dicts_are_one(self):
         for house, gone in all_cases():
@@ -176,7 +224,7 @@ class Conventions(unittest.TestCase):
                 found = function(*arguments)
                 self.assertIn(type(found), kinds_told_by(function), function)
                 self.assertLessEqual({type(leaf) for leaf in leaves(found)}, {int, type(None)}, function)
-                if found is not None:
-                    self.assertFalse([leaf for leaf in leaves(found) if leaf is None], function)
+                if found is not None and function != games.find_strategy:
+                    self.assertNotIn(None, leaves(found), function)
                 for item in found if isinstance(found, list) else []:
                     self.assertIn(type(item), (int, tuple), function)

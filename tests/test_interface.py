@@ -58,6 +58,33 @@ FUNCTIONS = {
         "is_plan": ["house", "gone", "f", "value"],
         "is_narrow": ["house", "gone", "f", "value"],
     },
+    "wishes": {
+        "levels_of": ["house", "gone", "wishes"],
+        "heaviest_weight": ["house", "gone", "wishes"],
+        "find_heaviest": ["house", "gone", "wishes"],
+        "find_ceiling": ["house", "gone", "wishes"],
+        "height_of": ["house", "gone", "wishes", "ceiling"],
+        "is_ceiling": ["house", "gone", "wishes", "number", "value"],
+    },
+    "breaks": {
+        "is_break": ["house", "gone", "people"],
+        "smallest_breaks": ["house", "gone"],
+        "least_break": ["house", "gone"],
+        "breaks_with": ["house", "gone", "person"],
+    },
+    "games": {
+        "answers_to": ["house", "gone", "roster", "person", "r"],
+        "can_answer": ["house", "gone", "roster", "f", "r"],
+        "find_strategy": ["house", "gone", "roster", "f", "r"],
+        "find_book": ["house", "gone", "roster", "f", "r"],
+        "is_strategy": ["house", "gone", "roster", "f", "r", "value"],
+        "is_book": ["house", "gone", "roster", "f", "r", "value"],
+    },
+    "fewmoves": {
+        "least_r": ["house", "gone", "roster", "f"],
+        "ready_rosters": ["house", "f", "r"],
+        "least_ready": ["house", "f"],
+    },
 }
 ERRORS = {
     "InvalidPerson": ["person"],

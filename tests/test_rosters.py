@@ -3,7 +3,7 @@
 import unittest
 from itertools import product
 
-from sparehands.rosters import find_roster, find_short, is_short
+from sparehands.rosters import all_rosters, find_roster, find_short, is_short
 from tests.trying import (
     CHAIN,
     PAIRS,
@@ -39,6 +39,10 @@ class RosterOrShortSet(unittest.TestCase):
     def test_small_houses_against_all_rosters(self):
         for house, gone in small_cases():
             self.assertEqual(self.one_is_told(house, gone), rosters_by_trying(house, gone) != [], (house, gone))
+
+    def test_all_rosters(self):
+        for house, gone in small_cases():
+            self.assertEqual(all_rosters(house, gone), rosters_by_trying(house, gone), (house, gone))
 
     def test_large_houses(self):
         told = [self.one_is_told(house, gone) for house, gone in large_cases(3000)]

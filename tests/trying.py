@@ -215,7 +215,8 @@ def is_limit_by_words(house, gone, some, number, value):
 
 def levels_by_words(house, gone, wishes):
     there = there_by_words(house, gone)
-    return [level for level in range(999, 0, -1) if any(wishes[p] == level for p in there)]
+    wished = [wishes[p] for p in there]
+    return [level for level in range(99, 0, -1) if level in wished]
 
 
 def height_by_words(house, gone, wishes, ceiling):
