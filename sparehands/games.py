@@ -1,6 +1,7 @@
 """Stage 12: strategies against dropouts with few moves, and books of dropouts against all answers."""
 
 from sparehands.houses import is_roster, is_there, joined, people_there, takers
+from sparehands.nearest import moves_apart, rosters_within
 from sparehands.spares import find_narrow
 
 
@@ -121,7 +122,7 @@ def is_reply(house, gone, roster, person, f, r, value):
 
 def is_answer(house, gone, roster, person, r, value):
     """Return whether a value of any kind is an answer to the person."""
-    return is_roster(house, joined(gone, (person,)), value) and count_moves(roster, value) <= r
+    return is_roster(house, joined(gone, (person,)), value) and moves_apart(roster, value) <= r
 
 
 def is_book(house, gone, roster, f, r, value):
@@ -137,26 +138,3 @@ def is_book(house, gone, roster, f, r, value):
         return False
     later = joined(gone, (person,))
     return all([is_book(house, later, answer, f - 1, r, pages[answer]) for answer in pages])
-
-
-def rosters_within(house, gone, roster, moves):
-    """Return, in ascending order, all rosters that fit and are at most so many moves apart from the roster."""
-    rows = [((), moves)]
-    needed = len([person for person in roster if person in gone])
-    for post, old in zip(house[1], roster):
-        if old in gone:
-            needed -= 1
-        longer = []
-        for row, left in rows:
-            # Where all moves left are needed for people who are gone, somebody who is there stays.
-            able = post if left > needed else (old,)
-            for person in able:
-                if person not in gone and person not in row:
-                    longer.append(((*row, person), left if person == old else left - 1))
-        rows = longer
-    return [row for row, _ in rows]
-
-
-def count_moves(one, other):
-    """Return at how many posts two rosters differ."""
-    return len([post for post in range(len(one)) if one[post] != other[post]])

@@ -3,7 +3,24 @@
 import unittest
 from copy import deepcopy
 
-from sparehands import away, breaks, cheapest, fewmoves, games, houses, pairs, rosters, spares, tight, wishes
+from sparehands import (
+    away,
+    breaks,
+    cheapest,
+    fewmoves,
+    fewskills,
+    games,
+    houses,
+    nearest,
+    pairs,
+    rosters,
+    skills,
+    spares,
+    tight,
+    ways,
+    wishes,
+)
+from tests.learning import missing_by_words
 from tests.trying import (
     CHAIN,
     PAIRS,
@@ -26,7 +43,7 @@ def all_cases():
 
 
 def is_small(house):
-    """Whether it is a house for stages 12 and 13, and one with few rosters."""
+    """Whether it is a house for stages 12 to 15, and one with few rosters."""
     return house[0] <= 6 and len(house[1]) <= 4
 
 
@@ -36,6 +53,10 @@ def wishes_of(house):
 
 def costs_of(house):
     return tuple(tuple((31 * k + 17 * p + 7 * k * p) % 100 for p in house[1][k]) for k in range(len(house[1])))
+
+
+def skill_costs_of(house):
+    return tuple(tuple(3 + (5 * k + 3 * p) % 7 for p in range(house[0])) for k in range(len(house[1])))
 
 
 def calls(house, gone):
@@ -53,6 +74,9 @@ def calls(house, gone):
         for f, r in ((0, 0), (1, 1), (2, 1), (3, 2)):
             yield fewmoves.ready_rosters, (house, f, r)
             yield fewmoves.least_ready, (house, f)
+        yield from calls_of_skills(house)
+    if rosters.find_roster(house, ()) is not None:
+        yield from calls_between_rosters(house, gone)
     if roster is not None:
         yield cheapest.cost_of, (house, costs_of(house), roster)
         yield from calls_with_a_roster(house, gone)
@@ -92,6 +116,35 @@ def calls_of_wishes_and_breaks(house, gone):
         yield breaks.breaks_with, (house, gone, person)
 
 
+def calls_between_rosters(house, gone):
+    one = rosters.find_roster(house, ())
+    for function in (nearest.least_moves, nearest.find_nearest, nearest.nearest_rosters):
+        yield function, (house, gone, one)
+    yield nearest.move_costs, (house, one)
+    for post, person in pairs_by_words(house, ())[-3:]:
+        other = pairs.find_with(house, (), post, person)
+        if other is not None:
+            for function in (nearest.moves_apart, ways.parts_between, ways.step_by_step, ways.mixed_rosters):
+                yield function, (one, other)
+            yield ways.with_parts, (one, other, ways.parts_between(one, other)[::-1])
+
+
+def calls_of_skills(house):
+    costs = skill_costs_of(house)
+    missing = tuple(missing_by_words(house))
+    yield skills.missing_pairs, (house,)
+    for choice in (missing, missing[::2], ()):
+        yield skills.learned, (house, choice)
+        yield skills.choice_cost, (costs, choice)
+    for f, d in ((0, 3), (0, 9), (1, 6), (2, 9), (3, 8)):
+        yield skills.find_skills, (house, f, costs, d)
+        yield skills.find_skill_book, (house, f, costs, d)
+    for f in (0, 1, 2, 3):
+        yield skills.least_skill_cost, (house, f, costs)
+        yield fewskills.smallest_skills, (house, f, missing[-4:])
+        yield fewskills.needed_skills, (house, f, missing[-4:])
+
+
 def calls_of_games(house, gone, roster):
     for person in there_by_words(house, gone):
         for r in (0, 1, 5):
@@ -104,11 +157,18 @@ def calls_of_games(house, gone, roster):
 
 LISTS = (
     houses.takers, pairs.possible_pairs, pairs.sure_pairs, tight.tight_sets, tight.needed_people, wishes.levels_of,
-    breaks.smallest_breaks, breaks.breaks_with, games.answers_to, fewmoves.ready_rosters)
-TUPLES = (tight.greatest_tight, away.find_most_away, away.find_limit, wishes.find_heaviest, wishes.find_ceiling)
-INTEGERS = (cheapest.cost_of, away.most_away, away.limit_of, wishes.heaviest_weight, wishes.height_of)
+    breaks.smallest_breaks, breaks.breaks_with, games.answers_to, fewmoves.ready_rosters, nearest.nearest_rosters,
+    ways.parts_between, ways.mixed_rosters, skills.missing_pairs, fewskills.smallest_skills, fewskills.needed_skills)
+TUPLES = (
+    tight.greatest_tight, away.find_most_away, away.find_limit, wishes.find_heaviest, wishes.find_ceiling,
+    nearest.move_costs, ways.with_parts, skills.learned)
+INTEGERS = (
+    cheapest.cost_of, away.most_away, away.limit_of, wishes.heaviest_weight, wishes.height_of, nearest.moves_apart,
+    skills.choice_cost)
 INTEGERS_OR_NONE = (
-    cheapest.least_roster_cost, spares.least_spare, breaks.least_break, fewmoves.least_r, fewmoves.least_ready)
+    cheapest.least_roster_cost, spares.least_spare, breaks.least_break, fewmoves.least_r, fewmoves.least_ready,
+    nearest.least_moves, skills.least_skill_cost)
+HOLDING_DICTS = (games.find_strategy, games.find_book, skills.find_skill_book)
 
 
 def kinds_told_by(function):
@@ -119,6 +179,8 @@ def kinds_told_by(function):
         return (int,) if function in INTEGERS else (int, type(None))
     if function == games.find_strategy:
         return (dict, type(None))
+    if function == ways.step_by_step:
+        return (list, type(None))
     return (tuple,) if function in TUPLES else (tuple, type(None))
 
 
@@ -138,6 +200,8 @@ def checks(house, gone, value):
     for f, r in ((0, 0), (1, 2), (2, 1)):
         yield games.is_strategy, (house, gone, rosters.find_roster(house, gone), f, r, value)
         yield games.is_book, (house, gone, rosters.find_roster(house, gone), f, r, value)
+    for f, d in ((0, 3), (2, 9)):
+        yield skills.is_skill_book, (house, f, skill_costs_of(house), d, value)
     for person in there_by_words(house, gone)[:2]:
         yield tight.is_reason, (house, gone, person, value)
         yield away.is_limit, (house, gone, (person,), 1, value)
@@ -209,7 +273,7 @@ class Conventions(unittest.TestCase):
                     spoil(first)
                     self.assertEqual(kinds(function(*arguments)), kinds(before), function)
                     changed[function] = changed.get(function, 0) + 1
-        for function in (*LISTS, games.find_strategy, games.find_book):
+        for function in (*LISTS, *HOLDING_DICTS, ways.step_by_step):
             self.assertGreater(changed[function], 20, function)
 
     def test_no_two_lists_or_dicts_are_one(self):
@@ -223,7 +287,8 @@ class Conventions(unittest.TestCase):
             for function, arguments in calls(house, gone):
                 found = function(*arguments)
                 self.assertIn(type(found), kinds_told_by(function), function)
-                self.assertLessEqual({type(leaf) for leaf in leaves(found)}, {int, type(None)}, function)
+                words = {str} if function == ways.parts_between else set()
+                self.assertLessEqual({type(leaf) for leaf in leaves(found)}, {int, type(None)} | words, function)
                 if found is not None and function != games.find_strategy:
                     self.assertNotIn(None, leaves(found), function)
                 for item in found if isinstance(found, list) else []:

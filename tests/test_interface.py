@@ -72,6 +72,19 @@ FUNCTIONS = {
         "least_break": ["house", "gone"],
         "breaks_with": ["house", "gone", "person"],
     },
+    "nearest": {
+        "moves_apart": ["one", "other"],
+        "move_costs": ["house", "roster"],
+        "least_moves": ["house", "gone", "roster"],
+        "find_nearest": ["house", "gone", "roster"],
+        "nearest_rosters": ["house", "gone", "roster"],
+    },
+    "ways": {
+        "parts_between": ["one", "other"],
+        "with_parts": ["one", "other", "chosen"],
+        "step_by_step": ["one", "other"],
+        "mixed_rosters": ["one", "other"],
+    },
     "games": {
         "answers_to": ["house", "gone", "roster", "person", "r"],
         "can_answer": ["house", "gone", "roster", "f", "r"],
@@ -84,6 +97,20 @@ FUNCTIONS = {
         "least_r": ["house", "gone", "roster", "f"],
         "ready_rosters": ["house", "f", "r"],
         "least_ready": ["house", "f"],
+    },
+    "skills": {
+        "missing_pairs": ["house"],
+        "learned": ["house", "choice"],
+        "choice_cost": ["costs", "choice"],
+        "find_skills": ["house", "f", "costs", "d"],
+        "find_skill_book": ["house", "f", "costs", "d"],
+        "least_skill_cost": ["house", "f", "costs"],
+        "is_skill_book": ["house", "f", "costs", "d", "value"],
+    },
+    "fewskills": {
+        "smallest_skills": ["house", "f", "pairs"],
+        "is_smallest_choice": ["house", "f", "choice"],
+        "needed_skills": ["house", "f", "pairs"],
     },
 }
 ERRORS = {
