@@ -38,10 +38,12 @@ class Game:
         return None
 
     def find_answer(self, gone, roster, person, f):
-        """Return an answer to the person that leaves a strategy against f - 1 more dropouts, or None."""
+        """Return an answer to the person that leaves a strategy against f - 1 more dropouts, or None.
+
+        It is one with as few moves as can be. Mostly there is one close by, and most need not be looked at.
+        """
         later = joined(gone, (person,))
-        # Mostly there is one close by, and looking there first spares going through all of them.
-        for moves in sorted({min(1, self.limit), self.limit}):
+        for moves in range(min(self.limit, len(roster)) + 1):
             for answer in rosters_within(self.setting, later, roster, moves):
                 if self.find_breaker(later, answer, f - 1) is None:
                     return answer
@@ -66,7 +68,10 @@ class Game:
 
     def make_book(self, gone, roster, f):
         """Return a book for a position that has no strategy."""
-        person = self.find_breaker(gone, roster, f)
+        return self.make_book_from(gone, roster, self.find_breaker(gone, roster, f), f)
+
+    def make_book_from(self, gone, roster, person, f):
+        """Return a book that begins with a person to whom no answer leaves a strategy against f - 1 more dropouts."""
         later = joined(gone, (person,))
         answers = answers_to(self.setting, gone, roster, person, self.limit)
         return person, {answer: self.make_book(later, answer, f - 1) for answer in answers}

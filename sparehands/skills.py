@@ -109,3 +109,8 @@ def widening_pairs(house, costs, d, posts):
 def is_pair(value):
     """Return whether a value of any kind is a tuple of two integers."""
     return isinstance(value, tuple) and len(value) == 2 and is_integer(value[0]) and is_integer(value[1])
+
+
+def is_missing_pair(house, post, person):
+    """Return whether a post and a person, values of any kind, are a missing pair."""
+    return is_pair((post, person)) and (post, person) in missing_pairs(house)

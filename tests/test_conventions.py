@@ -7,10 +7,13 @@ from sparehands import (
     away,
     breaks,
     cheapest,
+    comparing,
+    counting,
     fewmoves,
     fewskills,
     games,
     houses,
+    keeperlogs,
     nearest,
     pairs,
     rosters,
@@ -59,6 +62,14 @@ def skill_costs_of(house):
     return tuple(tuple(3 + (5 * k + 3 * p) % 7 for p in range(house[0])) for k in range(len(house[1])))
 
 
+def other_houses(house):
+    """Houses with a pair less, and a pair more."""
+    for post, person in pairs_by_words(house, ())[-1:]:
+        yield pairs.without_pair(house, post, person)
+    for pair in missing_by_words(house)[:1]:
+        yield skills.learned(house, (pair,))
+
+
 def calls(house, gone):
     """Calls of all functions that return something else than a bool, as they may be made for the house."""
     roster = rosters.find_roster(house, gone)
@@ -67,6 +78,15 @@ def calls(house, gone):
         yield function, (house, gone)
     for function in (cheapest.least_roster_cost, cheapest.find_cheapest, cheapest.find_prices):
         yield function, (house, gone, costs_of(house))
+    yield counting.count_rosters, (house, gone)
+    for i in (0, 1, 7):
+        yield counting.nth_roster, (house, gone, i)
+    for post, person in pairs_by_words(house, ())[:3]:
+        yield counting.count_with, (house, gone, post, person)
+    for other in (house, *other_houses(house)):
+        for function in (comparing.find_only, comparing.find_worse):
+            yield function, (house, other)
+    yield comparing.tidied, (house,)
     for f in (0, 1, 2, 9):
         for function in (spares.find_plan, spares.find_narrow):
             yield function, (house, gone, f)
@@ -79,6 +99,7 @@ def calls(house, gone):
         yield from calls_between_rosters(house, gone)
     if roster is not None:
         yield cheapest.cost_of, (house, costs_of(house), roster)
+        yield counting.number_of, (house, gone, roster)
         yield from calls_with_a_roster(house, gone)
         yield from calls_of_wishes_and_breaks(house, gone)
     if roster is not None and is_small(house):
@@ -161,10 +182,10 @@ LISTS = (
     ways.parts_between, ways.mixed_rosters, skills.missing_pairs, fewskills.smallest_skills, fewskills.needed_skills)
 TUPLES = (
     tight.greatest_tight, away.find_most_away, away.find_limit, wishes.find_heaviest, wishes.find_ceiling,
-    nearest.move_costs, ways.with_parts, skills.learned)
+    nearest.move_costs, ways.with_parts, skills.learned, comparing.tidied)
 INTEGERS = (
     cheapest.cost_of, away.most_away, away.limit_of, wishes.heaviest_weight, wishes.height_of, nearest.moves_apart,
-    skills.choice_cost)
+    skills.choice_cost, counting.count_rosters, counting.number_of, counting.count_with)
 INTEGERS_OR_NONE = (
     cheapest.least_roster_cost, spares.least_spare, breaks.least_break, fewmoves.least_r, fewmoves.least_ready,
     nearest.least_moves, skills.least_skill_cost)
@@ -202,6 +223,7 @@ def checks(house, gone, value):
         yield games.is_book, (house, gone, rosters.find_roster(house, gone), f, r, value)
     for f, d in ((0, 3), (2, 9)):
         yield skills.is_skill_book, (house, f, skill_costs_of(house), d, value)
+    yield keeperlogs.is_keeper_log, (house, 0, value)
     for person in there_by_words(house, gone)[:2]:
         yield tight.is_reason, (house, gone, person, value)
         yield away.is_limit, (house, gone, (person,), 1, value)

@@ -112,6 +112,40 @@ FUNCTIONS = {
         "is_smallest_choice": ["house", "f", "choice"],
         "needed_skills": ["house", "f", "pairs"],
     },
+    "counting": {
+        "count_rosters": ["house", "gone"],
+        "nth_roster": ["house", "gone", "i"],
+        "number_of": ["house", "gone", "roster"],
+        "count_with": ["house", "gone", "post", "person"],
+    },
+    "comparing": {
+        "tidied": ["house"],
+        "find_only": ["one", "other"],
+        "find_worse": ["one", "other"],
+        "bears_as_much": ["one", "other"],
+    },
+    "keeperlogs": {
+        "keeper_log": ["keeper"],
+        "first_keeper_fault": ["house", "f", "value"],
+        "is_keeper_log": ["house", "f", "value"],
+    },
+}
+KEEPER = {
+    "__init__": ["house", "f"],
+    "drop": ["person"],
+    "let": ["person"],
+    "back": ["person"],
+    "learn": ["post", "person"],
+    "pledge": ["n", "r"],
+    "house": [],
+    "roster": [],
+    "gone": [],
+    "pledged": [],
+    "spare": [],
+    "strategy": [],
+    "undo": [],
+    "__len__": [],
+    "__eq__": ["other"],
 }
 ERRORS = {
     "InvalidPerson": ["person"],
@@ -128,6 +162,13 @@ def defined_in(module):
     text = Path(sparehands.__file__).with_name(module + ".py").read_text(encoding="utf-8")
     kinds = (ast.FunctionDef, ast.ClassDef)
     return [node.name for node in ast.parse(text).body if isinstance(node, kinds)]
+
+
+def methods_defined_in(module, name):
+    """The names of the methods that the body of a class itself defines."""
+    text = Path(sparehands.__file__).with_name(module + ".py").read_text(encoding="utf-8")
+    found, = [node for node in ast.parse(text).body if isinstance(node, ast.ClassDef) and node.name == name]
+    return [node.name for node in found.body if isinstance(node, ast.FunctionDef)]
 
 
 class Interface(unittest.TestCase):
@@ -149,3 +190,20 @@ class Interface(unittest.TestCase):
             self.assertEqual(parameters[1:], arguments, name)
             self.assertIn(name, defined_in("errors"))
         self.assertIn("SparehandsError", defined_in("errors"))
+
+    def test_keeper(self):
+        keeper = importlib.import_module("sparehands.keepers").Keeper
+        self.assertIn("Keeper", defined_in("keepers"))
+        self.assertEqual(keeper.__bases__, (object,))
+        for name, arguments in KEEPER.items():
+            parameters = list(inspect.signature(getattr(keeper, name)).parameters.values())
+            self.assertEqual([parameter.name for parameter in parameters], ["self", *arguments], name)
+            for parameter in parameters:
+                self.assertIs(parameter.default, inspect.Parameter.empty, name)
+                self.assertIs(parameter.kind, inspect.Parameter.POSITIONAL_OR_KEYWORD, name)
+            self.assertIn(name, methods_defined_in("keepers", "Keeper"))
+
+    def test_all_files(self):
+        folder = Path(sparehands.__file__).parent
+        names = {path.stem for path in folder.glob("*.py")}
+        self.assertEqual(names, {"__init__", "errors", "keepers", *FUNCTIONS})

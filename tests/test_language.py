@@ -255,6 +255,31 @@ class Code(unittest.TestCase):
                 self.assertNotIn(node.attr, builtin, where)
         self.assertFalse({name for name in methods if not name.startswith("__")} & builtin)
 
+    def test_attributes_that_are_read_are_assigned(self):
+        assigned = {node.attr for node, _ in self.each(ast.Attribute) if isinstance(node.ctx, ast.Store)}
+        for path, tree in trees():
+            called_there = {node.func for node in ast.walk(tree) if isinstance(node, ast.Call)}
+            for node in ast.walk(tree):
+                if isinstance(node, ast.Attribute) and isinstance(node.ctx, ast.Load) and node not in called_there:
+                    self.assertIn(node.attr, assigned, f"{path.name}:{node.lineno}")
+
+    def test_double_underscore_methods(self):
+        for node, where in self.each(ast.FunctionDef):
+            rows = [row for row in ast.walk(node) if isinstance(row, ast.Return)]
+            if node.name == "__init__":
+                self.assertEqual(rows, [], where)
+            elif node.name.startswith("__"):
+                self.assertEqual([type(row) for row in node.body], [ast.Return], where)
+            if node.name == "__len__":
+                self.assertEqual(called(rows[0].value), "len", where)
+
+    def test_errors(self):
+        own = [node.name for node, _ in self.each(ast.ClassDef)]
+        for node, where in self.each(ast.Raise):
+            self.assertIsInstance(node.exc, ast.Call, where)
+            self.assertIn(called(node.exc), own, where)
+            self.assertFalse(node.exc.keywords, where)
+
     def test_sets(self):
         for path, tree in trees():
             up = {child: node for node in ast.walk(tree) for child in ast.iter_child_nodes(node)}
