@@ -72,6 +72,8 @@ class Game:
 
     def make_book_from(self, gone, roster, person, f):
         """Return a book that begins with a person to whom no answer leaves a strategy against f - 1 more dropouts."""
+        if f == 1:
+            return person, {}
         later = joined(gone, (person,))
         answers = answers_to(self.setting, gone, roster, person, self.limit)
         return person, {answer: self.make_book(later, answer, f - 1) for answer in answers}

@@ -64,7 +64,7 @@ def missing_pair_by_words(house, post, person):
 
 def right_error(state, f, call, error):
     """Whether a call has to raise just this error; None stands for no error."""
-    house, roster, gone, pledge = state[:4]
+    house, roster, gone = state[:3]
     if call[0] in ("drop", "let"):
         return right_error_of_leaving(state, f, call, error)
     if call[0] == "back" and not (integer_by_words(call[1]) and call[1] in gone):

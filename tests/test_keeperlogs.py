@@ -12,7 +12,7 @@ from sparehands.spares import find_plan
 from tests.keeping import chance_keepers, log_fault_by_words, make, move_costs_by_words, stands_after, state_of
 from tests.learning import missing_by_words
 from tests.playing import fitting
-from tests.trying import CHAIN, PAIRS, WIDE, ascending_tuples, lists_and_dicts, odd_values, variants
+from tests.trying import CHAIN, PAIRS, WIDE, lists_and_dicts, odd_values, variants
 
 EMPTY = (3, ())
 EASY = (5, ((0, 1), (1, 2, 3, 4)))

@@ -185,7 +185,7 @@ class Calls(unittest.TestCase):
 
     def test_a_pledge_refuses_what_the_spare_allows(self):
         refused = 0
-        for house, f, held in chance_keepers(self, 40, 0):
+        for house, _, held in chance_keepers(self, 40, 0):
             for n in (1, 2):
                 for r in range(6):
                     if held.make("pledge", n, r) is None:

@@ -303,7 +303,7 @@ class Books(unittest.TestCase):
 
     def test_books_for_another_f_or_d(self):
         right = wrong = 0
-        for house, f, costs, d, book in list(self.books())[::3]:
+        for house, _, costs, _, book in list(self.books())[::3]:
             for other in range(4):
                 for budget in range(10):
                     told = self.told(house, other, costs, budget, book)
